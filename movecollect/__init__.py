@@ -1,0 +1,1 @@
+"""A young half, an old half, and a book."""
