@@ -23,7 +23,7 @@ def sound(heap):
     for row in rows:
         if any(stray(heap, value) for value in row):
             return False
-    return book == pairs(old, list(range(len(old))))
+    return book == whole_book(old)
 
 
 def field(heap, pointer, k):
@@ -43,10 +43,9 @@ def made(heap, fields):
 
 def hold(heap, k, value):
     """The heap in which root k holds the value."""
-    young, old, roots, book = heap
-    if not 0 <= k < len(roots):
-        raise NoRoot("the heap has no root of that number")
+    refuse_no_root(heap, k)
     refuse_stray(heap, value)
+    young, old, roots, book = heap
     return young, old, replaced(roots, k, value), book
 
 
@@ -74,6 +73,11 @@ def half_of(heap, pointer):
     return young if points_young(pointer) else old
 
 
+def thing_at(heap, pointer):
+    """The thing to which the pointer leads."""
+    return half_of(heap, pointer)[pointer[1]]
+
+
 def stray(heap, value):
     """Whether the value is a pointer that leads to nothing."""
     if not isinstance(value, tuple):
@@ -88,11 +92,17 @@ def refuse_stray(heap, value):
         raise NoThing("the value is a pointer that leads to nothing")
 
 
+def refuse_no_root(heap, k):
+    """Refuse a number that no root of the heap has."""
+    if not 0 <= k < len(heap[2]):
+        raise NoRoot("the heap has no root of that number")
+
+
 def thing_with(heap, pointer, k):
     """The thing to which the pointer leads, refused where it has no field k."""
     if not isinstance(pointer, tuple) or stray(heap, pointer):
         raise NoThing("a thing is wanted, and nothing leads to one")
-    age, fields = half_of(heap, pointer)[pointer[1]]
+    age, fields = thing_at(heap, pointer)
     if not 0 <= k < len(fields):
         raise NoField("the thing has no field of that number")
     return age, fields
@@ -111,6 +121,11 @@ def pairs(old, places):
         for k, value in enumerate(old[place][1])
         if points_young(value)
     ])
+
+
+def whole_book(old):
+    """The book for this old half."""
+    return pairs(old, list(range(len(old))))
 
 
 def rebooked(book, pair, wanted):

@@ -1,21 +1,22 @@
 """The young half gone through; the book spares going through the old one."""
 
-from movecollect.heaps import OLD, YOUNG, pairs, points_young
+from movecollect.heaps import OLD, YOUNG, pairs
+from movecollect.meets import fresh, places_in
 from movecollect.moves import carried, follow, led
 
 
 def come_young(heap):
     """The places of the young things that are come to from the book, rising."""
     young, old, roots, book = heap
-    ahead = young_places(roots)
-    ahead.extend(young_places([old[place][1][k] for place, k in book]))
-    come = set()
+    known = {}
+    ahead = fresh(roots, known)
+    ahead.extend(fresh([old[place][1][k] for place, k in book], known))
     while ahead:
-        place = ahead.pop()
-        if place not in come:
-            come.add(place)
-            ahead.extend(young_places(young[place][1]))
-    return tuple(sorted(come))
+        half, place = ahead.pop()
+        # Old things are not gone through: the book tells what they lead to.
+        if half == YOUNG:
+            ahead.extend(fresh(young[place][1], known))
+    return places_in(YOUNG, list(known))
 
 
 def minor(heap, patience):
@@ -33,11 +34,6 @@ def minor(heap, patience):
     # Only what the book told of and what has just come can point to young things.
     looked_at = told + list(range(len(old), len(grown)))
     return aged, grown, led(roots, now), pairs(grown, looked_at)
-
-
-def young_places(values):
-    """The places to which the pointers to the young half among these lead."""
-    return [value[1] for value in values if points_young(value)]
 
 
 def relinked(old, places, now):

@@ -74,15 +74,53 @@ def come_young(heap):
     return tuple(place for place, thing in enumerate(young) if id(thing) in come)
 
 
-def minor(heap, patience):
-    young, old, roots = graph(heap)
+def gone_through(young, old, roots, patience):
+    """Both halves behind a going through of the young one."""
     come = reached(young, old, roots)
     left = [thing for thing in young if id(thing) in come]
     moved = [thing for thing in left if thing.age >= patience]
     stayed = [thing for thing in left if thing.age < patience]
     for thing in stayed:
         thing.age += 1
-    return told(stayed, old + moved, roots)
+    return stayed, old + moved
+
+
+def minor(heap, patience):
+    young, old, roots = graph(heap)
+    young, old = gone_through(young, old, roots, patience)
+    return told(young, old, roots)
+
+
+def reached_from_roots(things, roots):
+    """The things that are come to from the roots, by asking all until none is added."""
+    come = {id(x) for x in roots if isinstance(x, Thing)}
+    before = -1
+    while before < len(come):
+        before = len(come)
+        for thing in things:
+            if id(thing) in come:
+                come |= {id(x) for x in thing.fields if isinstance(x, Thing)}
+    return come
+
+
+def come_both(heap):
+    young, old, roots = graph(heap)
+    come = reached_from_roots(young + old, roots)
+    return tuple(
+        tuple(place for place, thing in enumerate(half) if id(thing) in come)
+        for half in (young, old)
+    )
+
+
+def both_gone_through(young, old, roots):
+    come = reached_from_roots(young + old, roots)
+    return [x for x in young if id(x) in come], [x for x in old if id(x) in come]
+
+
+def major(heap):
+    young, old, roots = graph(heap)
+    young, old = both_gone_through(young, old, roots)
+    return told(young, old, roots)
 
 
 def shape(heap):
@@ -107,6 +145,84 @@ def shape(heap):
     while len(things) < len(order):
         things.append(values(order[len(things)].fields))
     return first, tuple(things)
+
+
+NUMBERS_OF_ROOTS = {"make": 1, "set": 1, "put": 1, "take": 2, "look": 1, "same": 2}
+
+
+def parts_of(deed):
+    if deed[0] == "make":
+        return deed[2]
+    return deed[-1:] if deed[0] in ("set", "put") else ()
+
+
+class Play:
+    """A play on objects that refer to each other."""
+
+    def __init__(self, many, room, patience):
+        self.young, self.old, self.roots = [], [], [None] * many
+        self.room, self.patience = room, patience
+
+    def refusal(self, deed):
+        word = deed[0]
+        numbers = list(deed[1:1 + NUMBERS_OF_ROOTS.get(word, 0)])
+        numbers += [part[1] for part in parts_of(deed) if isinstance(part, tuple)]
+        if any(k not in range(len(self.roots)) for k in numbers):
+            return "no root"
+        if word in ("put", "take"):
+            k, f = (deed[1], deed[2]) if word == "put" else deed[2:]
+            thing = self.roots[k]
+            if not isinstance(thing, Thing):
+                return "no thing"
+            if f not in range(len(thing.fields)):
+                return "no field"
+        return None
+
+    def value(self, part):
+        return self.roots[part[1]] if isinstance(part, tuple) else part
+
+    def minor(self):
+        self.young, self.old = gone_through(self.young, self.old, self.roots, self.patience)
+        return "done"
+
+    def major(self):
+        self.young, self.old = both_gone_through(self.young, self.old, self.roots)
+        return "done"
+
+    def make(self, k, parts):
+        if len(self.young) >= self.room:
+            self.minor()
+        self.young.append(Thing(0, [self.value(part) for part in parts]))
+        self.roots[k] = self.young[-1]
+        return "done"
+
+    def set(self, k, part):
+        self.roots[k] = self.value(part)
+        return "done"
+
+    def put(self, k, f, part):
+        self.roots[k].fields[f] = self.value(part)
+        return "done"
+
+    def take(self, k, j, f):
+        self.roots[k] = self.roots[j].fields[f]
+        return "done"
+
+    def look(self, k):
+        held = self.roots[k]
+        return ("thing", len(held.fields)) if isinstance(held, Thing) else held
+
+    def same(self, k, j):
+        return isinstance(self.roots[k], Thing) and self.roots[k] is self.roots[j]
+
+
+def play(many, room, patience, deeds):
+    state = Play(many, room, patience)
+    answers = []
+    for deed in deeds:
+        refusal = state.refusal(deed)
+        answers.append(refusal or getattr(state, deed[0])(*deed[1:]))
+    return answers, told(state.young, state.old, state.roots)
 
 
 def chance_value(chance, many_young, many_old):
@@ -136,3 +252,30 @@ def chance_heap(chance):
     young = tuple((chance.randrange(5), row(4)) for _ in range(many_young))
     old = tuple((chance.randrange(5), row(4)) for _ in range(many_old))
     return young, old, row(5), full_book(old)
+
+
+def chance_part(chance, many):
+    return chance.choice((None, 0, 1, -MOST, MOST) + (("root", chance.randrange(-1, many + 1)),) * 6)
+
+
+def chance_deed(chance, many):
+    """A deed, now and then one that can't be done; of made things, field 0 is mostly there."""
+
+    def root():
+        return chance.randrange(-1, many + 1) if chance.randrange(12) == 0 else chance.randrange(many)
+
+    def field():
+        return chance.choice((0, 0, 0, 1, 1, 2, -1))
+
+    word = chance.choice(
+        ("make",) * 5 + ("set", "put", "put", "put", "take", "take", "look", "same", "minor", "major")
+    )
+    if word == "make":
+        return word, root(), tuple(chance_part(chance, many) for _ in range(chance.randrange(4)))
+    if word == "set":
+        return word, root(), chance_part(chance, many)
+    if word == "put":
+        return word, root(), field(), chance_part(chance, many)
+    if word == "take":
+        return word, root(), root(), field()
+    return (word,) + tuple(root() for _ in range({"look": 1, "same": 2}.get(word, 0)))

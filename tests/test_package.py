@@ -22,6 +22,9 @@ INTERFACE = {
         "put": ["heap", "pointer", "k", "value"],
     },
     "minor": {"come_young": ["heap"], "minor": ["heap", "patience"]},
+    "major": {"come_both": ["heap"], "major": ["heap"]},
+    "shapes": {"shape": ["heap"]},
+    "plays": {"play": ["many", "room", "patience", "deeds"]},
 }
 
 OUTSIDE = {
@@ -31,16 +34,21 @@ OUTSIDE = {
 
 PROBE = """
 from movecollect.heaps import hold, made, put, started
+from movecollect.major import come_both, major
 from movecollect.minor import come_young, minor
+from movecollect.plays import play
+from movecollect.shapes import shape
 heap = started(3)
 for k in range(40):
     heap, pointer = made(heap, (k, heap[2][k % 3], None))
     heap = hold(heap, k % 3, pointer)
     heap = put(heap, pointer, 2, heap[2][(k + 1) % 3])
     if k % 7 == 0:
-        print(come_young(heap))
+        print(come_young(heap), come_both(heap), shape(heap), major(heap))
         heap = minor(heap, 1)
 print(heap)
+deeds = [("make", k % 5, (("root", (k + 1) % 5), ("root", k % 3), k)) for k in range(60)]
+print(play(5, 7, 2, deeds))
 """
 
 
