@@ -53,7 +53,9 @@ def outcome(heap, room, patience, deed):
 
 def made_at(heap, room, patience, k, parts):
     """The heap in which root k holds a new thing, gone through ahead of it if room lacks."""
-    # A make that is refused below leaves the heap as it was ahead of going through.
+    # Nothing is gone through for a make that can't be done.
+    for j in [k] + [part[1] for part in parts if isinstance(part, tuple)]:
+        refuse_no_root(heap, j)
     ready = minor(heap, patience) if len(heap[0]) >= room else heap
     grown, pointer = made(ready, tuple([meant(ready, part) for part in parts]))
     return hold(grown, k, pointer)

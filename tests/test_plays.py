@@ -1,7 +1,9 @@
 import random
 import unittest
+from unittest import mock
 
 from movecollect.heaps import sound
+from movecollect.minor import minor
 from movecollect.plays import play
 from movecollect.shapes import shape
 from tests import naive
@@ -395,6 +397,17 @@ class RoomTest(PlayCase):
         self.assertEqual(answers, ["done"] + ["no root"] * 4)
         self.assertEqual(heap, (((0, ()),), (), (("young", 0), None, None, None), ()))
         self.ages(1, 0, deeds, [0], [])
+
+    def test_how_often_it_is_gone_through(self):
+        with mock.patch("movecollect.plays.minor", side_effect=minor) as through:
+            self.played(2, 0, 1, [("make", 0, ()), ("make", 1, (("root", 0), ("root", 1)))])
+            self.assertEqual(through.call_count, 2)
+            for deed in (("make", 2, ()), ("make", -1, ()), ("make", 0, (("root", 2),)),
+                         ("make", 0, (7, ("root", 0), ("root", -1)))):
+                self.played(2, 0, 1, [deed])
+            self.assertEqual(through.call_count, 2)
+            self.played(2, 1, 1, [("make", 0, ()), ("make", 0, ()), ("minor",)])
+            self.assertEqual(through.call_count, 4)
 
     def test_parts_stand_for_what_roots_hold_behind_that_going_through(self):
         deeds = [("make", 0, ()), ("make", 0, ()), ("make", 1, (("root", 0), 6, ("root", 0)))]
